@@ -1,6 +1,9 @@
 package syntax
 
-import "winch/api"
+import (
+	"winch/api"
+	"winch/reading"
+)
 
 // expression reads an expression. Operators of one level are grouped from the left: a right operand has higher ones only.
 func (r *reader) expression() api.Expr {
@@ -27,12 +30,12 @@ func (r *reader) expression() api.Expr {
 	operands = func(least int) api.Expr {
 		left := r.unary()
 		for {
-			op := operator(r.token().Text)
+			op := operator(r.Token().Text)
 			n := level(op)
 			if n < least {
 				return left
 			}
-			r.at++
+			r.Next()
 			right := operands(n + 1)
 			left = api.Expr{Op: op, Args: []api.Expr{left, right}}
 		}
@@ -78,15 +81,15 @@ func operator(text string) int {
 // unary reads an operand of an operator.
 func (r *reader) unary() api.Expr {
 	switch {
-	case r.accept("not"):
+	case r.Accept("not"):
 		return api.Expr{Op: api.ENot, Args: []api.Expr{r.unary()}}
-	case r.accept("-"):
+	case r.Accept("-"):
 		return api.Expr{Op: api.ENeg, Args: []api.Expr{r.unary()}}
-	case r.accept("("):
+	case r.Accept("("):
 		e := r.expression()
-		r.expect(")")
+		r.Expect(")")
 		return e
-	case r.token().Kind == api.TName:
+	case r.Token().Kind == api.TName:
 		return r.named()
 	}
 	return r.constant()
@@ -94,16 +97,16 @@ func (r *reader) unary() api.Expr {
 
 // named reads what begins with a name.
 func (r *reader) named() api.Expr {
-	e := api.Expr{Op: api.EName, S: r.name()}
+	e := api.Expr{Op: api.EName, S: r.Name()}
 	switch {
-	case r.accept("."):
+	case r.Accept("."):
 		e.Op = api.EField
-		e.Field = r.name()
-	case r.accept("["):
+		e.Field = r.Name()
+	case r.Accept("["):
 		e.Op = api.EIndex
 		e.Args = []api.Expr{r.expression()}
-		r.expect("]")
-	case r.accept("("):
+		r.Expect("]")
+	case r.Accept("("):
 		e.Op = api.ECall
 		e.Args = r.arguments()
 	}
@@ -112,38 +115,25 @@ func (r *reader) named() api.Expr {
 
 // arguments reads the arguments of a call after its parenthesis, with the other one.
 func (r *reader) arguments() []api.Expr {
-	if r.accept(")") {
+	if r.Accept(")") {
 		return nil
 	}
-	args := sequence(r, r.expression)
-	r.expect(")")
+	args := reading.Sequence(r.Reader, r.expression)
+	r.Expect(")")
 	return args
 }
 
 func (r *reader) constant() api.Expr {
 	e := api.Expr{Op: api.EConst}
-	switch t := r.token(); {
-	case t.Kind == api.TInt:
-		e.Kind, e.N = api.KInt, number(t.Text)
-	case t.Kind == api.TTime:
-		e.Kind, e.N = api.KTime, number(t.Text[len("t#"):])
-	case r.is("true"):
+	switch {
+	case r.Token().Kind == api.TTime:
+		e.Kind, e.N = api.KTime, r.Time()
+	case r.Accept("true"):
 		e.Kind, e.N = api.KBool, 1
-	case r.is("false"):
+	case r.Accept("false"):
 		e.Kind = api.KBool
 	default:
-		r.fail()
+		e.Kind, e.N = api.KInt, r.Number()
 	}
-	r.at++
 	return e
-}
-
-// sequence reads one or more parts with commas between them.
-func sequence[T any](r *reader, part func() T) []T {
-	l := []T{part()}
-	for r.accept(",") {
-		next := part()
-		l = append(l, next)
-	}
-	return l
 }
