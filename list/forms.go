@@ -4,38 +4,17 @@ import (
 	"iter"
 
 	"winch/api"
-	"winch/lexis"
-	"winch/syntax"
+	"winch/measure"
 )
 
 // areLines reports whether each line is one that the grammar has, and whether there are not too many nodes.
 func areLines(l []api.Line) bool {
 	words := words()
-	nodes := len(l)
-	for _, x := range l {
-		if words[headOf(x)] == "" || !isLine(x) {
-			return false
-		}
-		for _, e := range x.Arg {
-			if syntax.CheckExpr(e) != api.OK {
-				return false
-			}
-			nodes += count(e)
-			if nodes > api.MaxNodes {
-				return false
-			}
-		}
+	var m measure.Meter
+	line := func(x api.Line, depth int) bool {
+		return m.Enter(depth) && words[headOf(x)] != "" && isLine(x) && m.Expressions(x.Arg, depth+1)
 	}
-	return nodes <= api.MaxNodes
-}
-
-// count returns the number of nodes of a well formed expression.
-func count(e api.Expr) int {
-	n := 1
-	for _, arg := range e.Args {
-		n += count(arg)
-	}
-	return n
+	return measure.All(l, 0, line)
 }
 
 // isLine reports whether a line has what the grammar has after its word, whatever its expressions are.
@@ -53,25 +32,8 @@ func isLine(x api.Line) bool {
 	case api.LCall:
 		args, named = len(x.Fields), true
 	}
-	return isNameIf(x.Label != "", x.Label) && isNameIf(named, x.Name) && len(x.Arg) == args &&
-		(x.Op == api.LOp || !x.Open) && (x.Op == api.LCall || len(x.Fields) == 0) && areNames(x.Fields)
-}
-
-// isNameIf reports whether s is a name if there is to be one, and is empty otherwise.
-func isNameIf(there bool, s string) bool {
-	if !there {
-		return s == ""
-	}
-	return lexis.IsName(s)
-}
-
-func areNames(l []string) bool {
-	for _, s := range l {
-		if !lexis.IsName(s) {
-			return false
-		}
-	}
-	return true
+	return measure.IsNameIf(x.Label != "", x.Label) && measure.IsNameIf(named, x.Name) && len(x.Arg) == args &&
+		(x.Op == api.LOp || !x.Open) && (x.Op == api.LCall || len(x.Fields) == 0) && measure.AreNames(x.Fields)
 }
 
 // areClosed reports whether parentheses are closed, and nothing stands in them that must not.

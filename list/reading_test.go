@@ -8,7 +8,6 @@ import (
 
 	"winch/api"
 	"winch/internal/ebnf"
-	"winch/lexis"
 	"winch/list"
 	"winch/syntax"
 )
@@ -152,102 +151,39 @@ func TestReadErrors(t *testing.T) {
 	}
 }
 
-// grammar is that of the chapter, with that of expressions.
+// grammar is that of the chapter, with that of expressions, and parts to try.
 const grammar = `
 list = { [ N ":" ] line ";" }
 line = ( "ld" | "ldn" ) expression | ( "st" | "stn" | "set" | "reset" ) N | "not" | ")"
      | operator expression | operator "(" | ( "jmp" | "jmpc" | "jmpcn" ) N
      | ( "cal" | "calc" | "calcn" ) N [ "(" [ N ":=" expression { "," N ":=" expression } ] ")" ] | "ret" | "retc" | "retcn"
 operator = "and" | "andn" | "or" | "orn" | "xor" | "xorn" | "add" | "sub" | "mul" | "div" | "mod" | "gt" | "ge" | "eq" | "ne" | "le" | "lt"
-expression = xor { "or" xor }          xor = and { "xor" and }          and = equal { "and" equal }
-equal = order { ( "=" | "<>" ) order }          order = sum { ( "<" | "<=" | ">" | ">=" ) sum }
-sum = product { ( "+" | "-" ) product }          product = unary { ( "*" | "/" | "mod" ) unary }
-unary = ( "not" | "-" ) unary | constant | N [ "." N | "[" expression "]" | "(" [ expression { "," expression } ] ")" ] | "(" expression ")"
-constant = I | T | "true" | "false"
-`
+part = line ";"
+` + ebnf.Expressions
 
 var randomTokens = strings.Fields("x y f 1 t#5 true not and andn or xorn add mod lt + - * = < ( ) [ ] , ; ; : . := ld ldn st set reset jmp jmpc cal calcn ret retcn %i1 end | if")
 
-// expectWrong checks where a source is wrong.
-func expectWrong(t *testing.T, g ebnf.Grammar, source string) int {
-	t.Helper()
-	tokens, _, e := lexis.Tokens(source)
-	if e != api.OK {
-		t.Fatalf("%q: %d", source, e)
-	}
-	wrong := g.Wrong("list", tokens)
-	l, at, e := list.Read(source)
-	if wrong >= 0 && (e != api.ErrSyntax || at != tokens[wrong].At || len(l) != 0) {
-		t.Errorf("%q: %d, %d; want position %d", source, at, e, tokens[wrong].At)
-	}
-	if wrong < 0 && (at != 0 || e != api.OK && e != api.ErrFull) {
-		t.Errorf("%q: %d, %d; want none", source, at, e)
-	}
-	return wrong
+// trial holds the reader against the grammar.
+func trial(t *testing.T) ebnf.Trial {
+	return ebnf.Trial{Grammar: ebnf.Parse(grammar), Start: "list", Part: "part", Most: 3, Tokens: randomTokens, Read: ebnf.Positions(list.Read, t.Error), Complain: t.Error}
 }
 
 func TestFirstWrongToken(t *testing.T) {
-	r := rand.New(rand.NewSource(3))
-	g := ebnf.Parse(grammar)
-	good, bad := 0, 0
-	for range 5000 {
-		var words []string
-		for range r.Intn(4) {
-			words = append(words, g.Derive("line", 2+r.Intn(12), r.Intn)...)
-			words = append(words, ";")
-		}
-		words = ebnf.Spoil(words, randomTokens, r.Intn)
-		if len(words) > 60 {
-			continue
-		}
-		if expectWrong(t, g, strings.Join(words, " ")) < 0 {
-			good++
-		} else {
-			bad++
-		}
-	}
-	if good < 500 || bad < 500 {
-		t.Errorf("only %d good and %d bad sources", good, bad)
-	}
+	trial(t).Random(5000, rand.New(rand.NewSource(3)).Intn)
 }
 
 // TestFirstWrongTokenAnywhere puts each token behind each beginning of some sources, and one more behind that.
 func TestFirstWrongTokenAnywhere(t *testing.T) {
-	g := ebnf.Parse(grammar)
 	for _, source := range []string{
 		"x : ld a + b [ 1 ] ; stn q ; set q ; not ; y : ret ;",
 		"and ( ; ld ( a ) ; ) ; or ( a ) or b . q ; mul - 1 ;",
 		"jmpcn x ; cal f ; calc f ( ) ; cal f ( a := 1 , b := g ( c , t#5 ) ) ; retc ;",
 	} {
-		words := strings.Fields(source)
-		for i := range len(words) + 1 {
-			before := strings.Join(words[:i], " ") + " "
-			for _, w := range randomTokens {
-				expectWrong(t, g, before+w)
-				expectWrong(t, g, before+w+" ;")
-				expectWrong(t, g, before+w+" x")
-			}
-		}
+		trial(t).Behind(source)
 	}
 }
 
 func TestAnySource(t *testing.T) {
-	r := rand.New(rand.NewSource(4))
 	pieces := strings.Split("ld a|st q|;|;|:|x|and(|)|(|jmp x|cal f|not|,|:=| |\n|?|1|ret|a.b|t#|-|or b|\x00|\xff", "|")
-	for range 20000 {
-		var b strings.Builder
-		for range r.Intn(12) {
-			b.WriteString(pieces[r.Intn(len(pieces))])
-		}
-		s := b.String()
-		l, at, e := list.Read(s)
-		m, at2, e2 := list.Read(s)
-		if !reflect.DeepEqual(l, m) || at != at2 || e != e2 || e != api.OK && len(l) != 0 {
-			t.Fatalf("Read(%q) = %v, %d, %d and %v, %d, %d", s, l, at, e, m, at2, e2)
-		}
-		_, at3, e3 := lexis.Tokens(s)
-		if e3 != api.OK && (e != e3 || at != at3) {
-			t.Fatalf("Read(%q): %d, %d; Tokens %d, %d", s, at, e, at3, e3)
-		}
-	}
+	trial(t).Pieces(pieces, 20000, rand.New(rand.NewSource(4)).Intn)
 }

@@ -5,6 +5,7 @@ import (
 
 	"winch/api"
 	"winch/print"
+	"winch/writing"
 )
 
 // text returns the text of a well formed list.
@@ -26,22 +27,13 @@ func restText(x api.Line) string {
 	case x.Open:
 		return "("
 	case x.Op == api.LCall && len(x.Fields) > 0:
-		return " " + x.Name + "(" + inputs(x) + ")"
+		return " " + x.Name + "(" + writing.Inputs(x.Fields, x.Arg, expression) + ")"
 	case x.Name != "":
 		return " " + x.Name
 	case len(x.Arg) > 0:
 		return " " + expression(x.Arg[0])
 	}
 	return ""
-}
-
-// inputs returns the text of the inputs of a call.
-func inputs(x api.Line) string {
-	var l []string
-	for i, field := range x.Fields {
-		l = append(l, field+" := "+expression(x.Arg[i]))
-	}
-	return strings.Join(l, ", ")
 }
 
 // expression returns the text of an expression, which is well formed, as the list is.

@@ -1,6 +1,9 @@
 package print
 
-import "winch/api"
+import (
+	"winch/api"
+	"winch/writing"
+)
 
 // operator says how an operator of two operands is written; operators of higher levels bind closer.
 type operator struct {
@@ -68,5 +71,5 @@ func (w expressions) operand(e api.Expr, least int) string {
 }
 
 func (w expressions) list(l []api.Expr) string {
-	return joined(l, ", ", w.text)
+	return writing.Joined(l, ", ", w.text)
 }

@@ -5,6 +5,7 @@ import (
 	"strings"
 
 	"winch/api"
+	"winch/writing"
 )
 
 // indent is what the lines of statements begin with once more than those of the statement that they stand in.
@@ -38,7 +39,7 @@ func (p printer) statement(s api.Stmt, in int) {
 	case api.SSet:
 		p.line(in, p.place(s)+" := "+p.text(s.Args[0])+";")
 	case api.SCall:
-		p.line(in, s.Name+"("+p.inputs(s)+");")
+		p.line(in, s.Name+"("+writing.Inputs(s.Fields, s.Args, p.text)+");")
 	case api.SIf:
 		p.choice(s, in)
 	case api.SCase:
@@ -65,15 +66,6 @@ func (p printer) place(s api.Stmt) string {
 	return s.Name + "[" + p.list(s.Index) + "]"
 }
 
-// inputs returns the text of the inputs of a call.
-func (p printer) inputs(s api.Stmt) string {
-	var l []string
-	for i, field := range s.Fields {
-		l = append(l, field+" := "+p.text(s.Args[i]))
-	}
-	return strings.Join(l, ", ")
-}
-
 // block writes statements between two lines.
 func (p printer) block(in int, first string, l []api.Stmt, last string) {
 	p.line(in, first)
@@ -95,7 +87,7 @@ func (p printer) choice(s api.Stmt, in int) {
 func (p printer) selection(s api.Stmt, in int) {
 	p.line(in, "case "+p.text(s.Args[0])+" of")
 	for _, a := range s.Arms {
-		p.line(in+1, joined(a.Labels, ", ", strconv.Itoa)+":")
+		p.line(in+1, writing.Joined(a.Labels, ", ", strconv.Itoa)+":")
 		p.statements(a.Body, in+2)
 	}
 	p.other(s, in)

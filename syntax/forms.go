@@ -5,41 +5,16 @@ import (
 
 	"winch/api"
 	"winch/lexis"
+	"winch/measure"
 )
 
-// meter counts the nodes of statements and expressions, and keeps their greatest depth. Its methods report false at the first
-// part that is not well formed, so that they end soon whatever the size of what they look at.
+// meter counts the nodes of statements, too.
 type meter struct {
-	nodes, depth int
-}
-
-// enter counts one node.
-func (m *meter) enter(depth int) bool {
-	m.nodes++
-	m.depth = max(m.depth, depth)
-	return m.nodes <= api.MaxNodes && m.depth <= api.MaxDepth
-}
-
-// all visits the members of a list, which all have the same depth.
-func all[T any](l []T, depth int, visit func(T, int) bool) bool {
-	for _, x := range l {
-		if !visit(x, depth) {
-			return false
-		}
-	}
-	return true
-}
-
-func (m *meter) expressions(l []api.Expr, depth int) bool {
-	return all(l, depth, m.expression)
-}
-
-func (m *meter) expression(e api.Expr, depth int) bool {
-	return m.enter(depth) && isExpression(e) && m.expressions(e.Args, depth+1)
+	measure.Meter
 }
 
 func (m *meter) statements(l []api.Stmt, depth int) bool {
-	return all(l, depth, m.statement)
+	return measure.All(l, depth, m.statement)
 }
 
 func (m *meter) statement(s api.Stmt, depth int) bool {
@@ -48,46 +23,10 @@ func (m *meter) statement(s api.Stmt, depth int) bool {
 		isArm = isLabelled
 	}
 	arm := func(a api.Arm, depth int) bool {
-		return m.enter(depth) && isArm(a) && m.expressions(a.If, depth+1) && m.statements(a.Body, depth+1)
+		return m.Enter(depth) && isArm(a) && m.Expressions(a.If, depth+1) && m.statements(a.Body, depth+1)
 	}
-	return m.enter(depth) && isStatement(s) && m.expressions(s.Index, depth+1) && m.expressions(s.Args, depth+1) &&
-		m.statements(s.Body, depth+1) && all(s.Arms, depth+1, arm) && m.statements(s.Other, depth+1)
-}
-
-// isExpression reports whether the fields of an expression are those that its operator needs, whatever its operands are.
-func isExpression(e api.Expr) bool {
-	if e.Op == api.EConst {
-		return isConstant(e.Kind, e.N) && e.S == "" && e.Field == "" && len(e.Args) == 0
-	}
-	if e.Kind != 0 || e.N != 0 || (e.Op != api.EField && e.Field != "") {
-		return false
-	}
-	switch {
-	case e.Op == api.EName:
-		return lexis.IsName(e.S) && len(e.Args) == 0
-	case e.Op == api.EField:
-		return lexis.IsName(e.S) && lexis.IsName(e.Field) && len(e.Args) == 0
-	case e.Op == api.EIndex:
-		return lexis.IsName(e.S) && len(e.Args) == 1
-	case e.Op == api.ECall:
-		return lexis.IsName(e.S)
-	case e.Op == api.ENot || e.Op == api.ENeg:
-		return e.S == "" && len(e.Args) == 1
-	case e.Op >= api.EOr && e.Op <= api.EMod:
-		return e.S == "" && len(e.Args) == 2
-	}
-	return false
-}
-
-// isConstant reports whether the grammar has a constant of this kind and value. (It has no negative ones.)
-func isConstant(kind, n int) bool {
-	switch kind {
-	case api.KBool:
-		return n == 0 || n == 1
-	case api.KInt, api.KTime:
-		return n >= 0 && n <= math.MaxInt32
-	}
-	return false
+	return m.Enter(depth) && isStatement(s) && m.Expressions(s.Index, depth+1) && m.Expressions(s.Args, depth+1) &&
+		m.statements(s.Body, depth+1) && measure.All(s.Arms, depth+1, arm) && m.statements(s.Other, depth+1)
 }
 
 // isStatement reports whether the fields of a statement are those that its operator needs, whatever stands in it. What an
@@ -103,7 +42,7 @@ func isStatement(s api.Stmt) bool {
 		rest.Name, rest.Index = "", nil
 	case api.SCall:
 		args = len(s.Fields)
-		fits = lexis.IsName(s.Name) && areNames(s.Fields)
+		fits = lexis.IsName(s.Name) && measure.AreNames(s.Fields)
 		rest.Name, rest.Fields = "", nil
 	case api.SIf:
 		fits = s.Else || len(s.Other) == 0
@@ -149,13 +88,4 @@ func isLabelled(a api.Arm) bool {
 // isLabel reports whether a number can be written as a label: the sign stands before a numeral, so the least value cannot.
 func isLabel(n int) bool {
 	return n >= -math.MaxInt32 && n <= math.MaxInt32
-}
-
-func areNames(l []string) bool {
-	for _, s := range l {
-		if !lexis.IsName(s) {
-			return false
-		}
-	}
-	return true
 }

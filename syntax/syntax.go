@@ -5,6 +5,7 @@ import (
 	"slices"
 
 	"winch/api"
+	"winch/measure"
 )
 
 // Text returns the statements of a source; with an error its position.
@@ -33,8 +34,8 @@ func Check(l []api.Stmt) api.Errno {
 
 // CheckExpr returns OK if an expression is well formed.
 func CheckExpr(e api.Expr) api.Errno {
-	var m meter
-	if !m.expression(e, 1) {
+	var m measure.Meter
+	if !m.Expression(e, 1) {
 		return api.ErrArg
 	}
 	return api.OK
@@ -46,7 +47,7 @@ func Nodes(l []api.Stmt) (int, int, api.Errno) {
 	if !m.statements(l, 1) {
 		return 0, 0, api.ErrArg
 	}
-	return m.nodes, m.depth, api.OK
+	return m.Nodes(), m.Depth(), api.OK
 }
 
 // Same reports whether statements are equal in all fields.
