@@ -1,4 +1,4 @@
-// Package deep copies parts of bodies, so that a copy shares no memory with what it is a copy of.
+// Package deep copies bodies and their parts, so that a copy shares no memory with what it is a copy of.
 package deep
 
 import "winch/api"
@@ -14,11 +14,25 @@ func List[T any](l []T, copied func(T) T) []T {
 
 // Exprs returns a copy of expressions.
 func Exprs(l []api.Expr) []api.Expr {
-	return List(l, Expr)
+	return naming{}.exprs(l)
 }
 
 // Expr returns a copy of an expression.
 func Expr(e api.Expr) api.Expr {
-	e.Args = Exprs(e.Args)
-	return e
+	return naming{}.expr(e)
+}
+
+// Chart returns a copy of a chart.
+func Chart(c api.Chart) api.Chart {
+	return naming{}.chart(c)
+}
+
+// Body returns a copy of a body.
+func Body(b api.Body) api.Body {
+	return naming{}.body(b)
+}
+
+// Renamed returns a copy of a body in which a variable, which can be a block variable, has another name wherever it stands.
+func Renamed(b api.Body, from, to string) api.Body {
+	return naming{from, to}.body(b)
 }

@@ -145,23 +145,14 @@ func TestReadErrors(t *testing.T) {
 	}
 }
 
-// grammar is that of the chapter, with that of expressions, and parts to try.
-const grammar = `
-diagram = { node ";" }
-node = I ":" "not" "(" pin ")"
-     | I ":" operator "(" pin "," pin ")"
-     | I ":" N "(" [ N ":=" pin { "," N ":=" pin } ] ")" "." N
-     | N ":=" pin
-pin = [ "/" ] ( ":" I | expression )
-operator = "and" | "or" | "xor" | "add" | "sub" | "mul" | "div" | "mod" | "gt" | "ge" | "eq" | "ne" | "le" | "lt"
-part = node ";"
-` + ebnf.Expressions
+// grammar is that of the chapter, with pieces to try.
+const grammar = ebnf.Diagrams + ebnf.Expressions + ` piece = node ";" `
 
 var randomTokens = strings.Fields("x y f 0 1 2 t#5 true not and or xor add div mod lt + - * / = < ( ) [ ] , ; ; : : . := & | -> andn %i1 end if")
 
 // trial holds the reader against the grammar.
 func trial(t *testing.T) ebnf.Trial {
-	return ebnf.Trial{Grammar: ebnf.Parse(grammar), Start: "diagram", Part: "part", Most: 3, Tokens: randomTokens, Read: ebnf.Positions(diagram.Read, t.Error), Complain: t.Error}
+	return ebnf.Trial{Grammar: ebnf.Parse(grammar), Start: "diagram", Part: "piece", Most: 3, Tokens: randomTokens, Read: ebnf.Positions(diagram.Read, t.Error), Complain: t.Error}
 }
 
 func TestFirstWrongToken(t *testing.T) {

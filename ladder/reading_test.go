@@ -155,21 +155,11 @@ func TestReadErrors(t *testing.T) {
 	}
 }
 
-// grammar is that of the chapter, with that of expressions.
-const grammar = `
-ladder = { rung }
-rung = "rung" [ N ] ":" power "->" coil { "," coil } ";"
-power = series { "|" series }          series = element { "&" element }
-element = "true" | N | ( "/" | "+" | "-" ) N | "[" expression "]" | "(" power ")"
-        | "box" N "(" N [ "," N ":=" expression { "," N ":=" expression } ] ")" "." N
-coil = N | ( "/" | "+" | "-" | "set" | "reset" | "jump" ) N | "return"
-` + ebnf.Expressions
-
 var randomTokens = strings.Fields("x y f 1 t#5 true not and or + - * / = < ( ) [ ] , ; ; : . := & | -> rung box set reset jump return %i1 end st false")
 
 // trial holds the reader against the grammar.
 func trial(t *testing.T) ebnf.Trial {
-	return ebnf.Trial{Grammar: ebnf.Parse(grammar), Start: "ladder", Part: "rung", Most: 2, Tokens: randomTokens, Read: ebnf.Positions(ladder.Read, t.Error), Complain: t.Error}
+	return ebnf.Trial{Grammar: ebnf.Parse(ebnf.Ladders + ebnf.Expressions), Start: "ladder", Part: "rung", Most: 2, Tokens: randomTokens, Read: ebnf.Positions(ladder.Read, t.Error), Complain: t.Error}
 }
 
 func TestFirstWrongToken(t *testing.T) {

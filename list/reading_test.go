@@ -151,21 +151,14 @@ func TestReadErrors(t *testing.T) {
 	}
 }
 
-// grammar is that of the chapter, with that of expressions, and parts to try.
-const grammar = `
-list = { [ N ":" ] line ";" }
-line = ( "ld" | "ldn" ) expression | ( "st" | "stn" | "set" | "reset" ) N | "not" | ")"
-     | operator expression | operator "(" | ( "jmp" | "jmpc" | "jmpcn" ) N
-     | ( "cal" | "calc" | "calcn" ) N [ "(" [ N ":=" expression { "," N ":=" expression } ] ")" ] | "ret" | "retc" | "retcn"
-operator = "and" | "andn" | "or" | "orn" | "xor" | "xorn" | "add" | "sub" | "mul" | "div" | "mod" | "gt" | "ge" | "eq" | "ne" | "le" | "lt"
-part = line ";"
-` + ebnf.Expressions
+// grammar is that of the chapter, with pieces to try.
+const grammar = ebnf.Lists + ebnf.Expressions + ` piece = line ";" `
 
 var randomTokens = strings.Fields("x y f 1 t#5 true not and andn or xorn add mod lt + - * = < ( ) [ ] , ; ; : . := ld ldn st set reset jmp jmpc cal calcn ret retcn %i1 end | if")
 
 // trial holds the reader against the grammar.
 func trial(t *testing.T) ebnf.Trial {
-	return ebnf.Trial{Grammar: ebnf.Parse(grammar), Start: "list", Part: "part", Most: 3, Tokens: randomTokens, Read: ebnf.Positions(list.Read, t.Error), Complain: t.Error}
+	return ebnf.Trial{Grammar: ebnf.Parse(grammar), Start: "list", Part: "piece", Most: 3, Tokens: randomTokens, Read: ebnf.Positions(list.Read, t.Error), Complain: t.Error}
 }
 
 func TestFirstWrongToken(t *testing.T) {

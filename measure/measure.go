@@ -29,6 +29,12 @@ func (m *Meter) Enter(depth int) bool {
 	return m.nodes <= api.MaxNodes && m.depth <= api.MaxDepth
 }
 
+// Add counts nodes that another layer has counted, and found to be not too deep.
+func (m *Meter) Add(nodes int) bool {
+	m.nodes += nodes
+	return m.nodes <= api.MaxNodes
+}
+
 // Expressions counts the nodes of expressions that have a depth.
 func (m *Meter) Expressions(l []api.Expr, depth int) bool {
 	return All(l, depth, m.Expression)

@@ -46,6 +46,13 @@ func TestLimits(t *testing.T) {
 	}
 }
 
+func TestAdd(t *testing.T) {
+	var m measure.Meter
+	if !m.Add(0) || !m.Enter(1) || !m.Add(499) || m.Nodes() != 500 || m.Depth() != 1 || m.Add(1) || m.Enter(1) || m.Nodes() != 502 {
+		t.Errorf("%d nodes, depth %d", m.Nodes(), m.Depth())
+	}
+}
+
 func TestAll(t *testing.T) {
 	var seen []int
 	visit := func(x, depth int) bool {

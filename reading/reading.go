@@ -13,7 +13,7 @@ type Reader struct {
 	source string
 	tokens []api.Token
 	at     int
-	// full is whether a part has been read that is too large, so that the whole is, too.
+	// full is whether a part has been read that is not well formed, so that the whole is not, either.
 	full bool
 }
 
@@ -129,9 +129,36 @@ func (r *Reader) Time() int {
 	return number(r.take(api.TTime)[len("t#"):])
 }
 
+// Address takes an address that must be there.
+func (r *Reader) Address() string {
+	return r.take(api.TAt)
+}
+
+// Full says that what has been read is not well formed, for a reason that its value does not show.
+func (r *Reader) Full() {
+	r.full = true
+}
+
+// Length returns the length of the source, at which every part ends at the latest.
+func (r *Reader) Length() int {
+	return len(r.source)
+}
+
 // Extent returns the position at which an expression that begins with the next token ends at the latest: that of the next
 // semicolon, of the next comma or closing bracket that is in no brackets, or of the end.
 func (r *Reader) Extent() int {
+	return r.until(func(t api.Token, open int) bool { return t.Text == ";" || open == 0 && t.Text == "," })
+}
+
+// Inside returns the position at which what stands in brackets ends at the latest, the first of which has been read: that of the
+// bracket that closes them, or of the end.
+func (r *Reader) Inside() int {
+	return r.until(func(api.Token, int) bool { return false })
+}
+
+// until returns the position of the next token that ends something, where so many brackets are open, or that closes a bracket
+// that was open before, or of the end.
+func (r *Reader) until(ends func(t api.Token, open int) bool) int {
 	open := 0
 	for at := r.at; ; at++ {
 		t := r.tokens[at]
@@ -141,7 +168,7 @@ func (r *Reader) Extent() int {
 		case ")", "]":
 			open--
 		}
-		if t.Kind == api.TEnd || t.Text == ";" || open < 0 || open == 0 && t.Text == "," {
+		if t.Kind == api.TEnd || open < 0 || ends(t, open) {
 			return t.At
 		}
 	}

@@ -58,6 +58,29 @@ func TestExpressionsInside(t *testing.T) {
 	}
 }
 
+// TestTextInBrackets has parts of which it is known where they end at the latest.
+func TestTextInBrackets(t *testing.T) {
+	for _, x := range []struct {
+		source string
+		want   int
+		at     int
+		err    api.Errno
+	}{
+		{"()", 0, 0, api.OK}, {"(exit; x[(1)] := f(2); )", 2, 0, api.OK}, {"(exit", 0, 5, api.ErrSyntax}, {"(", 0, 1, api.ErrSyntax}, {"(exit;]", 0, 6, api.ErrSyntax}, {"(exit; 1)", 0, 7, api.ErrSyntax}, {"(x[1) := 2;)", 0, 4, api.ErrSyntax},
+		{"(exit;))", 0, 7, api.ErrSyntax}, {"(x := 1 // )\n;)", 1, 0, api.OK}, {"(x := (1;)", 0, 8, api.ErrSyntax}, {"(x := --------------1;)", 0, 0, api.ErrFull}, {"(x := --------------1; 2)", 0, 23, api.ErrSyntax},
+	} {
+		n, at, err := reading.Whole(x.source, func(r *reading.Reader) int {
+			r.Expect("(")
+			l := reading.Part(r, r.Inside(), syntax.Text)
+			r.Expect(")")
+			return len(l)
+		})
+		if n != x.want || at != x.at || err != x.err {
+			t.Errorf("%q: %d, %d, %d; want %d, %d, %d", x.source, n, at, err, x.want, x.at, x.err)
+		}
+	}
+}
+
 // TestTextInside has parts that end before the end of what is looked at.
 func TestTextInside(t *testing.T) {
 	for _, x := range []struct {
@@ -75,7 +98,7 @@ func TestTextInside(t *testing.T) {
 	} {
 		n, at, err := reading.Whole(x.source, func(r *reading.Reader) int {
 			r.Expect("do")
-			l := reading.Part(r, len(x.source), syntax.Text)
+			l := reading.Part(r, r.Length(), syntax.Text)
 			r.Expect("end")
 			return len(l)
 		})
@@ -98,10 +121,29 @@ func TestTokens(t *testing.T) {
 	if len(got) != 10 || slices.Contains(got, false) || err != api.OK {
 		t.Errorf("%v, %d", got, err)
 	}
-	for _, take := range []func(*reading.Reader){func(r *reading.Reader) { r.Name() }, func(r *reading.Reader) { r.Time() }, (*reading.Reader).Fail} {
+	if at, _, err := reading.Whole("%i5", (*reading.Reader).Address); at != "%i5" || err != api.OK {
+		t.Errorf("address: %q, %d", at, err)
+	}
+	for _, take := range []func(*reading.Reader){func(r *reading.Reader) { r.Name() }, func(r *reading.Reader) { r.Time() }, func(r *reading.Reader) { r.Address() }, (*reading.Reader).Fail} {
 		n, at, err := reading.Whole(" 7", func(r *reading.Reader) int { take(r); return 1 })
 		if n != 0 || at != 1 || err != api.ErrSyntax {
 			t.Errorf("wrong token: %d, %d, %d", n, at, err)
+		}
+	}
+}
+
+func TestFull(t *testing.T) {
+	full := func(r *reading.Reader) string {
+		r.Full()
+		return r.Name()
+	}
+	for source, want := range map[string]api.Errno{"a": api.ErrFull, "a b": api.ErrSyntax, "1": api.ErrSyntax, "?": api.ErrSyntax} {
+		at := 0
+		if source == "a b" {
+			at = 2
+		}
+		if name, got, err := reading.Whole(source, full); name != "" || got != at || err != want {
+			t.Errorf("%q: %q, %d, %d", source, name, got, err)
 		}
 	}
 }

@@ -10,26 +10,12 @@ import (
 	"winch/syntax"
 )
 
-// grammar is that of the chapter, in which the by of a for (J) is not 0.
-const grammar = `
-text = { statement }
-statement = N [ "[" expression "]" ] ":=" expression ";"
-          | N "(" [ N ":=" expression { "," N ":=" expression } ] ")" ";"
-          | "if" expression "then" text { "elsif" expression "then" text } [ "else" text ] "end_if" ";"
-          | "case" expression "of" { label { "," label } ":" text } [ "else" text ] "end_case" ";"
-          | "for" N ":=" expression "to" expression [ "by" [ "-" ] J ] "do" text "end_for" ";"
-          | "while" expression "do" text "end_while" ";"
-          | "repeat" text "until" expression "end_repeat" ";"
-          | "exit" ";" | "return" ";"
-label = [ "-" ] I
-` + ebnf.Expressions
-
 var randomTokens = strings.Fields("x y t1 f 0 1 5 t#5 true false not and or xor mod + - * / = <> < <= > >= ( ) [ ] , ; : . := if then elsif else" +
 	" end_if case of end_case for to by do end_for while end_while repeat until end_repeat exit return & | -> %i1 end add step")
 
 // trials hold the readers of statements and of expressions against the grammar.
 func trials(t *testing.T) map[string]ebnf.Trial {
-	g := ebnf.Parse(grammar)
+	g := ebnf.Parse(ebnf.Statements + ebnf.Expressions)
 	expression := func(source string) (int, api.Errno) {
 		_, at, err := syntax.Expr(source)
 		return at, err

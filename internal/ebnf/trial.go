@@ -8,15 +8,6 @@ import (
 	"winch/lexis"
 )
 
-// Expressions is the grammar of expressions, which those of most bodies contain.
-const Expressions = `
-expression = xor { "or" xor }          xor = and { "xor" and }          and = equal { "and" equal }
-equal = order { ( "=" | "<>" ) order }          order = sum { ( "<" | "<=" | ">" | ">=" ) sum }
-sum = product { ( "+" | "-" ) product }          product = unary { ( "*" | "/" | "mod" ) unary }
-unary = ( "not" | "-" ) unary | constant | N [ "." N | "[" expression "]" | "(" [ expression { "," expression } ] ")" ] | "(" expression ")"
-constant = I | T | "true" | "false"
-`
-
 // Trial holds a reader against a grammar, and complains about what the reader says wrongly.
 type Trial struct {
 	Grammar Grammar
