@@ -145,15 +145,22 @@ func initial(v api.Var, at int) int {
 	return 0
 }
 
-// hiddenOf returns the hidden cells of a unit, and whether there are not too many. A function has none, as none of its cells remain.
+// hiddenOf returns the hidden cells of a unit, and whether its body is not too much. A function has none, as none of its cells
+// remain, but its body can be too much like any other.
 func hiddenOf(u api.Unit) ([]place, bool) {
-	switch {
-	case u.Kind == api.UFunction:
-		return nil, true
-	case u.Body.Lang == api.InLadder:
-		return hiddenOfLadder(u.Body.Rungs)
-	case u.Body.Lang == api.InChart:
-		return hiddenOfChart(u.Body.Chart)
+	hidden, fits := hiddenOfBody(u.Body)
+	if u.Kind == api.UFunction {
+		return nil, fits
+	}
+	return hidden, fits
+}
+
+func hiddenOfBody(b api.Body) ([]place, bool) {
+	switch b.Lang {
+	case api.InLadder:
+		return hiddenOfLadder(b.Rungs)
+	case api.InChart:
+		return hiddenOfChart(b.Chart)
 	}
 	return nil, true
 }
