@@ -91,9 +91,10 @@ func checkAgreement(t *testing.T, p api.Project) api.Errno {
 	case (project.Check(p) == api.OK) != (err != api.ErrArg):
 		t.Errorf("Check of %v: %d, %d", p, at, err)
 	}
-	isSound := true
 	for unit := range p.Units {
-		isSound = check.Unit(p, unit) == api.OK && isSound
+		if errOfUnit := check.Unit(p, unit); errOfUnit != err {
+			t.Errorf("Check of %v: %d, %d; Unit of %d: %d", p, at, err, unit, errOfUnit)
+		}
 		if err == api.OK {
 			checkUses(t, p, unit, order)
 		}
@@ -101,9 +102,6 @@ func checkAgreement(t *testing.T, p api.Project) api.Errno {
 		if errOfExpr == api.OK && kind != api.KTime || err == api.OK && errOfExpr != api.OK {
 			t.Errorf("Expr(%v, %d) = %d, %d", p, unit, kind, errOfExpr)
 		}
-	}
-	if len(p.Units) > 0 && isSound != (err == api.OK) {
-		t.Errorf("Check of %v: %d, %d; its units: %v", p, at, err, isSound)
 	}
 	return err
 }

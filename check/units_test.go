@@ -141,15 +141,22 @@ func TestOrderOfUnits(t *testing.T) {
 	})
 }
 
-// TestUnit is about Unit: bodies other than that of the unit do not matter, if everything else is sound.
+// TestUnit is about Unit, which tells the error of a body if all else is sound, the bodies of other units, too.
 func TestUnit(t *testing.T) {
 	for _, x := range []struct {
 		source string
 		want   []api.Errno
 	}{
-		{"program p st exit; end block b st a := 1; end function f : int st f := true; end program q st end", of(api.ErrPlace, api.ErrName, api.ErrKind, api.OK)},
 		{"program p st end block b st end", of(api.OK, api.OK)},
-		// Otherwise the error is that of Check, which may be the one of a body.
+		{"program p st exit; end block b st end", of(api.ErrPlace, api.ErrPlace)},
+		{"program p st end block b st a := 1; end", of(api.ErrName, api.ErrName)},
+		{"program p st end function f : int st f := true; end program q st end", of(api.ErrKind, api.ErrKind, api.ErrKind)},
+		// Otherwise the error is that of Check, which may be the one of another body, whatever is in the body of the unit.
+		{"program a st exit; end program p st k := 1; end", of(api.ErrPlace, api.ErrPlace)},
+		{"program a st k := 1; end program p st exit; end program q st end", of(api.ErrName, api.ErrName, api.ErrName)},
+		{"program a st end program p il and true; end program q st exit; end", of(api.ErrKind, api.ErrKind, api.ErrKind)},
+		{"program p st exit; end block b st a := 1; end function f : int st f := true; end program q st end", of(api.ErrPlace, api.ErrPlace, api.ErrPlace, api.ErrPlace)},
+		{"program p st exit; end task t every t#1 priority 1 run q;", of(api.ErrPlace)},
 		{"program p st exit; end block b st a := 1; end program p st end", of(api.ErrPlace, api.ErrPlace, api.ErrPlace)},
 		{"program p st end block p st a := 1; end program q st exit; end", of(api.ErrTwice, api.ErrTwice, api.ErrTwice)},
 		{"program p st end block b st a := 1; end task t every t#1 priority 1 run q;", of(api.ErrName, api.ErrName)},
