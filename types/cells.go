@@ -1,10 +1,6 @@
 package types
 
-import (
-	"math"
-
-	"winch/api"
-)
+import "winch/api"
 
 // cells returns the cells of a unit that has a plan.
 func cells(u api.Unit, pl plan) []api.Cell {
@@ -27,12 +23,4 @@ func addressOf(v api.Var) string {
 		return ""
 	}
 	return v.At
-}
-
-// isValue reports whether a cell of a kind can have a value.
-func isValue(n, kind int) bool {
-	if kind == api.KBool {
-		return n == 0 || n == 1
-	}
-	return n >= math.MinInt32 && n <= math.MaxInt32
 }

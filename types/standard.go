@@ -2,19 +2,31 @@ package types
 
 import "winch/api"
 
-// standard returns the variables of the standard blocks.
-func standard() map[string][]api.Var {
-	return map[string][]api.Var{
-		"ton":   timer(),
-		"tof":   timer(),
-		"tp":    timer(),
-		"ctu":   {input("cu", api.KBool), input("r", api.KBool), input("pv", api.KInt), output("q", api.KBool), output("cv", api.KInt), local("was", api.KBool)},
-		"ctd":   {input("cd", api.KBool), input("load", api.KBool), input("pv", api.KInt), output("q", api.KBool), output("cv", api.KInt), local("was", api.KBool)},
-		"sr":    {input("s1", api.KBool), input("r", api.KBool), output("q1", api.KBool)},
-		"rs":    {input("s", api.KBool), input("r1", api.KBool), output("q1", api.KBool)},
-		"rtrig": edge(),
-		"ftrig": edge(),
+// standard returns the lists of the variables of the standard blocks. (They are made when they are asked for, as making all of them
+// takes much longer.)
+func standard() map[string]func() []api.Var {
+	return map[string]func() []api.Var{
+		"ton": timer, "tof": timer, "tp": timer,
+		"ctu": ctu, "ctd": ctd,
+		"sr": sr, "rs": rs,
+		"rtrig": edge, "ftrig": edge,
 	}
+}
+
+func ctu() []api.Var {
+	return []api.Var{input("cu", api.KBool), input("r", api.KBool), input("pv", api.KInt), output("q", api.KBool), output("cv", api.KInt), local("was", api.KBool)}
+}
+
+func ctd() []api.Var {
+	return []api.Var{input("cd", api.KBool), input("load", api.KBool), input("pv", api.KInt), output("q", api.KBool), output("cv", api.KInt), local("was", api.KBool)}
+}
+
+func sr() []api.Var {
+	return []api.Var{input("s1", api.KBool), input("r", api.KBool), output("q1", api.KBool)}
+}
+
+func rs() []api.Var {
+	return []api.Var{input("s", api.KBool), input("r1", api.KBool), output("q1", api.KBool)}
 }
 
 func timer() []api.Var {

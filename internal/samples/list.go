@@ -1,0 +1,149 @@
+package samples
+
+import (
+	"strconv"
+	"strings"
+)
+
+// lines is a list that is being made: kind is that of the result (empty: unknown), waiting are the labels of jumps that are still to
+// come.
+type lines struct {
+	*scope
+	all     []string
+	kind    string
+	waiting []string
+	there   []string
+}
+
+func (s *scope) list() string {
+	l := &lines{scope: s}
+	for range s.Choose(2*s.Size + 1) {
+		l.next()
+	}
+	for len(l.waiting) > 0 {
+		l.load()
+	}
+	return strings.Join(l.all, " ")
+}
+
+func (l *lines) add(line string) { l.all = append(l.all, line+";") }
+
+// next adds a line, or several that belong together.
+func (l *lines) next() {
+	if l.kind == "" || l.isOnce(6) {
+		l.load()
+		return
+	}
+	switch x := l.Choose(12); {
+	case x < 4:
+		l.store()
+	case x < 8:
+		l.operator(2)
+	case x == 8 && l.kind == "bool":
+		l.add("not")
+	case x == 9 || x == 10:
+		l.call()
+	case x == 11:
+		l.jump()
+	}
+}
+
+// load adds a line that makes the result known, which may have a label.
+func (l *lines) load() {
+	label := ""
+	if len(l.waiting) > 0 {
+		last := len(l.waiting) - 1
+		label = l.waiting[last] + ": "
+		l.there = append(l.there, l.waiting[last])
+		l.waiting = l.waiting[:last]
+	}
+	kind := l.scope.kind()
+	l.add(label + l.loading(kind))
+	l.kind = kind
+}
+
+func (l *lines) loading(kind string) string {
+	if kind == "bool" && l.isOnce(3) {
+		return "ldn " + l.expression(kind, 2)
+	}
+	return "ld " + l.expression(kind, 2)
+}
+
+func (l *lines) store() {
+	targets := l.targets(l.kind)
+	if len(targets) == 0 {
+		return
+	}
+	op := "st "
+	if l.kind == "bool" {
+		op = l.one("st st stn set reset") + " "
+	}
+	l.add(op + targets[l.Choose(len(targets))])
+}
+
+// operator adds an operator, whose operand may be in parentheses.
+func (l *lines) operator(depth int) {
+	ops, result := map[string]string{"bool": "and andn or orn xor xorn eq ne", "int": "add sub mul div mod gt eq", "time": "add sub lt ge ne"}[l.kind], l.kind
+	op := l.one(ops)
+	if strings.Contains("gt eq lt ge ne", op) {
+		result = "bool"
+	}
+	if depth == 0 || l.Choose(3) > 0 {
+		l.add(op + " " + l.expression(l.kind, 1))
+		l.kind = result
+		return
+	}
+	// What is in the parentheses ends with the kind with which it begins.
+	before := l.kind
+	l.add(op + "(")
+	l.add(l.loading(before))
+	for range l.Choose(3) {
+		if was := len(l.all); l.isOnce(3) {
+			l.store()
+		} else {
+			l.operator(depth - 1)
+			if l.kind != before {
+				l.all = l.all[:was]
+				l.kind = before
+			}
+		}
+	}
+	l.add(")")
+	l.kind = result
+}
+
+func (l *lines) call() {
+	text := l.scope.call(2)
+	if text == "" {
+		return
+	}
+	op := "cal "
+	if l.kind == "bool" {
+		op = l.one("cal calc calcn") + " "
+	}
+	l.add(op + strings.TrimSuffix(text, "()"))
+}
+
+// jump adds a jump or a return: most often to a line that is still to come.
+func (l *lines) jump() {
+	condition := ""
+	if l.kind == "bool" {
+		condition = l.one("c c cn")
+	} else if l.Choose(3) > 0 {
+		return
+	}
+	switch {
+	case l.isOnce(4):
+		l.add("ret" + condition)
+	case len(l.there) > 0 && l.isOnce(6):
+		l.add("jmp" + condition + " " + l.there[l.Choose(len(l.there))])
+	default:
+		l.labels++
+		label := "l" + strconv.Itoa(l.labels)
+		l.waiting = append(l.waiting, label)
+		l.add("jmp" + condition + " " + label)
+	}
+	if condition == "" {
+		l.kind = ""
+	}
+}
