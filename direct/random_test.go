@@ -249,7 +249,7 @@ func uses(e api.Expr) bool {
 func TestValues(t *testing.T) {
 	t.Parallel()
 	found := map[int]int{}
-	scans(5, 1000, func(s *scanner, _ []int, _ int) {
+	scans(15, 1000, func(s *scanner, _ []int, _ int) {
 		for _, x := range s.p.Units[s.unit].Body.Text {
 			if x.Op != api.SSet || len(x.Index) > 0 {
 				continue

@@ -88,6 +88,17 @@ func when(condition api.Expr, body ...api.Stmt) api.Stmt {
 	return api.Stmt{Op: api.SIf, Args: of(condition), Body: body}
 }
 
+// computed returns the statement that computes an expression of a kind, and does nothing with it.
+func computed(kind int, e api.Expr) api.Stmt {
+	switch kind {
+	case api.KInt:
+		e = binary(api.EEq, e, number(0))
+	case api.KTime:
+		e = binary(api.EEq, e, time(0))
+	}
+	return when(e)
+}
+
 // whenAll returns the statement that executes others if all conditions are true; those alone, if there are no conditions.
 func whenAll(conditions []api.Expr, body ...api.Stmt) []api.Stmt {
 	if len(conditions) == 0 {

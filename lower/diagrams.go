@@ -6,8 +6,8 @@ import (
 	"winch/kinds"
 )
 
-// nodes makes statements of the nodes of a diagram: results has what is behind those that have a number, takers how many pins are
-// still to take it.
+// nodes makes statements of the nodes of a diagram: results has what is behind those that something takes, takers how many pins are
+// still to take it; nothing takes from a node that has no number.
 type nodes struct {
 	*work
 	results map[int]result
@@ -29,7 +29,9 @@ func (w *work) diagram() []api.Stmt {
 	source := w.unit.Body.Nodes
 	for _, x := range source {
 		for _, p := range x.Pins {
-			n.takers[p.From]++
+			if p.From != 0 {
+				n.takers[p.From]++
+			}
 		}
 	}
 	order, _ := diagram.Order(source)
@@ -76,6 +78,10 @@ func (n *nodes) pin(p api.Pin) (api.Expr, int) {
 
 // become sets the result of a node to an expression of a kind. It is computed even if nothing takes it, as it can have a fault.
 func (n *nodes) become(number, kind int, e api.Expr) {
+	if n.takers[number] == 0 {
+		n.body = append(n.body, computed(kind, e))
+		return
+	}
 	r := result{kind: kind}
 	if free := n.free[kind]; len(free) > 0 {
 		last := len(free) - 1
@@ -85,7 +91,6 @@ func (n *nodes) become(number, kind int, e api.Expr) {
 	}
 	n.results[number] = r
 	n.body = append(n.body, set(r.name, e))
-	n.freeIfDone(number)
 }
 
 // freeIfDone makes the variable of a result free, if nothing is left that takes it.

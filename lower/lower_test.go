@@ -57,6 +57,8 @@ func drawn() []string {
 		"program p input a bool; b bool; n int; d time; output q bool; r bool; m int; e time; fbd q := /:2; 2: or(:1, /b); 1: and(a, /:3); 3: xor(:4, b); 4: gt(n, 5); r := :4; 7: add(:8, d); 8: sub(d, t#3); e := :7; m := n; 9: ge(:7, t#9); 10: eq(:9, /:4); 11: not(/:10); r := :11; 12: ne(:8, :7); q := :12; 13: le(:8, :8); 14: lt(n, m); q := /:13; end",
 		"program p input a bool; n int; output q bool; m int; k int; local c ctu; d ctd; fbd 1: c(cu := a, pv := 3).cv; 2: c(cu := /a, r := :3).cv; 3: gt(:1, 2); m := :1; 4: add(:1, :2); k := :4; 5: d(cd := :3, load := a, pv := :4).q; q := /:5; 6: c().q; end", "program p input n int; output m int; local x int[2]; fbd 1: div(10, n); 2: mul(x[n], 2); m := 5; 3: add(m, n); 4: mod(:3, n); end", "program p input n int; output m int; k int; fbd 1: add(m, 1); m := n; 2: add(m, :1); k := :2; m := :1; 3: mul(:1, :1); k := :3; end",
 		"program p input a bool; output q bool; r bool; local s sr; fbd 1: s(s1 := a).q1; 2: s(r := :1).q1; 3: s(s1 := :2, r := q).q1; q := :1; r := /:3; 4: xor(:1, :2); r := :4; end",
+		// Diagrams of nodes without a number, which are executed, too.
+		"program p input a bool; n int; d time; output q bool; m int; local c ctu; t rtrig; fbd 0: not(a); 0: c(cu := a, pv := 2).cv; 1: c(cu := /a).cv; m := :1; 0: t(clk := a).q; 0: add(:1, n); q := t.q; 0: sub(d, d); end", "program p input a bool; n int; m int; d time; output q bool; local x bool[3]; fbd 0: div(1, n); q := a; 0: not(x[m]); end", "program p input n int; m int; d time; output q bool; local x int[3]; fbd 0: add(totime(5 / n), d); q := true; 0: add(x[m], 1); end",
 		// Charts: all qualifiers, with variables and statements, and actions of several steps for one variable.
 		"program p input a bool; b bool; output q bool; r bool; s bool; n int; m int; k bool; sfc initial step x do while q do enter (n := n + 1;) do leave (m := m + n;) do set s; step y do while q do leave r do enter k do reset s; step z do while (n := n - 1; while n > 3 do n := n - 1; if a then exit; end_if; end_while;) do set k; from x to y when a; from y to z when b; from z to x when a and b; from y to x when not a; end",
 		"program p input a bool; output q bool; r bool; s bool; t bool; n int; sfc initial step x do limit_ t#10 q do delay t#10 r do limit_ t#0 s do delay t#0 t do limit_ t#3 (n := n + 1;) do delay t#7 (n := n - 1;); step y do limit_ t#5 r do delay t#20 q; from x to y when a; from y to x when a; end", "program p output q bool; sfc initial step x do limit_ t#2147483647 q; step y do delay t#1 q; from x to y when q; from y to x when q; end",
@@ -135,6 +137,8 @@ func TestTexts(t *testing.T) {
 		"il ld a; st q; jmpc x; ld b; st q; x: ld a; st q; end":                 "next := 0; result := a; q := result; if result then next := 2; end_if; if next <= 1 then result := b; q := result; end_if; result := a; q := result;",
 		"il ld a; st q; x: ld b; st q; jmpc x; ld a; st q; end":                 "next := 0; repeat next := next mod 3; if next <= 0 then result := a; q := result; end_if; result := b; q := result; if result then next := 4; end_if; if next <= 2 then result := a; q := result; end_if; until next < 3 end_repeat;",
 		"fbd 1: and(a, b); 2: or(:1, a); q := :2; 3: not(b); q := :3; end":      "node := a and b; node := node or a; q := node; node := not b; q := node;",
+		"fbd 0: not(a); 1: not(b); q := a; 0: t(clk := a).q; end":               "if not a then end_if; if not b then end_if; q := a; t(clk := a);",
+		"fbd 0: add(1, 2); 1: sub(t#1, t#2); 2: add(3, 4); 3: gt(:2, 5); end":   "if 1 + 2 = 0 then end_if; if t#1 - t#2 = t#0 then end_if; node := 3 + 4; if node > 5 then end_if;",
 		"sfc initial step x do while q; step y; from x to y when a; end":        "if a and state[0] > 1 then state[0] := 1; given[1] := true; end_if; for each := 0 to 1 do if given[each] and state[each] <> 2 then state[each] := 3; end_if; given[each] := false; end_for; q := false; if state[0] > 1 then q := true; end_if; for each := 0 to 1 do state[each] := state[each] / 2 * 2; end_for;",
 	} {
 		p := read(t, "program p input a bool; b bool; output q bool; local t rtrig; "+body)
@@ -191,8 +195,13 @@ func TestRandom(t *testing.T) {
 	t.Parallel()
 	r := newRunner(4)
 	found := map[int]int{}
+	tooLarge := 0
 	for range 400 {
 		p, _ := r.Project()
+		if _, err := lower.Lower(p); err == api.ErrFull && !hasPlace(p) {
+			tooLarge++
+			continue
+		}
 		q := r.made(t, p, lower.Lower, 2)
 		for _, l := range languages(p) {
 			found[l]++
@@ -205,6 +214,9 @@ func TestRandom(t *testing.T) {
 		if found[l] < 150 {
 			t.Errorf("%d units in the language %d", found[l], l)
 		}
+	}
+	if tooLarge > 4 {
+		t.Errorf("%d projects are too large", tooLarge)
 	}
 	r.expectFound(t, 3000, 0, 20, 10)
 }

@@ -146,6 +146,9 @@ func (n *nodes) pin(kind string) string {
 func (n *nodes) next() {
 	kind := n.scope.kind()
 	number := strconv.Itoa(len(n.all) + 1)
+	if n.isOnce(6) {
+		number = noNumber
+	}
 	switch x := n.Choose(10); {
 	case x < 4:
 		if l := n.targets(kind); len(l) > 0 {
@@ -164,8 +167,18 @@ func (n *nodes) next() {
 	if strings.Contains("eq ne gt le lt ge", op) {
 		kind = "bool"
 	}
+	n.add(number, text, kind)
+}
+
+// noNumber is the number of nodes from which nothing can take.
+const noNumber = "0"
+
+// add adds a node with a result of a kind.
+func (n *nodes) add(number, text, kind string) {
 	n.all = append(n.all, number+": "+text+";")
-	n.numbers[kind] = append(n.numbers[kind], number)
+	if number != noNumber {
+		n.numbers[kind] = append(n.numbers[kind], number)
+	}
 }
 
 // block adds a node of a block, if there is one with an output.
@@ -182,8 +195,7 @@ func (n *nodes) block(number string) {
 	}
 	for _, x := range v.block.variables {
 		if x.class == "output" && x.isCell() {
-			n.all = append(n.all, number+": "+v.name+"("+strings.Join(l, ", ")+")."+x.name+";")
-			n.numbers[x.kind] = append(n.numbers[x.kind], number)
+			n.add(number, v.name+"("+strings.Join(l, ", ")+")."+x.name, x.kind)
 			return
 		}
 	}
