@@ -23,21 +23,7 @@ func ops() []string {
 
 // assembled returns the code with a text that is written with ";" for line feeds, and without zeros at the ends of instructions.
 func assembled(text string) api.Code {
-	var c api.Code
-	for _, line := range strings.Split(text, ";") {
-		words := strings.Fields(line)
-		n := make([]int, 4)
-		for i, word := range words[1:] {
-			fmt.Sscan(word, &n[i])
-		}
-		if words[0] == "unit" && len(words) > 3 {
-			c.Units = append(c.Units, api.UnitCode{Name: words[1], Kind: n[1], Cells: n[2], Args: n[3]})
-			continue
-		}
-		u := &c.Units[len(c.Units)-1]
-		u.Code = append(u.Code, api.Instr{Op: 1 + slices.Index(ops(), words[0]), A: n[0], B: n[1]})
-	}
-	return c
+	return samples.Assembled(text)
 }
 
 // repeated returns a text several times, with ";" between.

@@ -2,9 +2,7 @@ package code
 
 import (
 	"winch/api"
-	"winch/eval"
-	"winch/parts"
-	"winch/types"
+	"winch/standard"
 )
 
 // instruction is what is known of an Op: its name, how many values it pops and pushes (without those that depend on A), and whether
@@ -39,11 +37,6 @@ func instructions() map[int]instruction {
 	}
 }
 
-// standardFunctions returns the names of the standard functions, in the order of their numbers.
-func standardFunctions() []string {
-	return []string{"abs", "limit", "max", "min", "sel", "tobool", "toint", "totime"}
-}
-
 // tables is what instructions refer to: each one is made only once for a code.
 type tables struct {
 	units        []api.UnitCode
@@ -54,13 +47,11 @@ type tables struct {
 
 func tablesOf(c api.Code) *tables {
 	t := &tables{units: c.Units, instructions: instructions()}
-	for _, name := range standardFunctions() {
-		inputs, _, _ := eval.Kinds(name)
-		t.arguments = append(t.arguments, len(inputs))
+	for _, f := range standard.Functions() {
+		t.arguments = append(t.arguments, len(f.Inputs))
 	}
-	for _, name := range parts.Names() {
-		variables, _ := types.Standard(name)
-		t.sizes = append(t.sizes, len(variables))
+	for _, b := range standard.Blocks() {
+		t.sizes = append(t.sizes, len(b.Cells))
 	}
 	return t
 }
