@@ -5,11 +5,11 @@ import (
 	"winch/chart"
 )
 
-// What is in the first hidden cell of a step during a scan. At its end that of an active step is active, that of another one inactive.
+// What is in the first hidden cell of a step during a scan: 1 of one that is active, and does not enter. At its end that of an active
+// step is 1, that of another one is 0.
 const (
 	leaves   = -1
 	inactive = 0
-	active   = 1
 	enters   = 2
 )
 

@@ -244,7 +244,13 @@ func TestLarger(t *testing.T) {
 		inputs += fmt.Sprintf("a%d int; ", i)
 		args += ", n"
 	}
+	chain := "1: add(n, 1); "
+	for i := 2; i <= 110; i++ {
+		chain += fmt.Sprintf("%d: add(:%d, %d); ", i, i-1, i)
+	}
 	for _, source := range of(
+		// Results that nothing takes any more do not remain on the stack.
+		"program p input n int; output m int; fbd "+chain+"m := :110; end", "program p input n int; output m int; fbd "+strings.Repeat("0: div(5, n); ", 80)+"m := n; end", "program p input n int; output m int; local c ctu; fbd "+strings.Repeat("0: c(pv := n).cv; ", 80)+"m := n; end",
 		"program p input a bool; output q0 bool; q1 bool; q2 bool; sfc "+steps+transitions+"from s29 to s0 when a; end",
 		"function f : int input z int; "+inputs+"st f := z + a30; end program p input n int; output m int; st m := f("+args+"); end",
 		"program p input n int; output m int; st case n of "+numbers(700)+": m := 1; end_case; end",

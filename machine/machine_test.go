@@ -65,7 +65,7 @@ func TestInstructions(t *testing.T) {
 		// Standard functions.
 		{"load 0;std 0;store 0;return", of(-5), of(5), 0, 4}, {"load 0;load 1;load 2;std 1;store 0;return", of(0, 7, 5), of(5, 7, 5), 0, 6}, {"load 0;load 1;std 2;store 0;return", of(3, 7), of(7, 7), 0, 5}, {"load 0;load 1;std 3;store 0;return", of(3, 7), of(3, 7), 0, 5}, {"load 0;load 1;load 2;std 4;store 0;return", of(2, 7, 5), of(7, 7, 5), 0, 6}, {"load 0;load 1;load 2;std 4;store 0;return", of(-1, 7, 5), of(5, 7, 5), 0, 6}, {"load 0;std 5;store 0;return", of(2), of(1), 0, 4}, {"load 0;std 6;store 0;return", of(-2), of(-2), 0, 4}, {"load 0;std 7;store 0;return", of(-2), of(0), 0, 4},
 		// Jumps.
-		{"jump 3;const 5;store 0;return", of(1), of(1), 0, 2}, {"load 0;false 4;const 5;store 1;return", of(0, 1), of(0, 1), 0, 3}, {"load 0;false 4;const 5;store 1;return", of(2, 1), of(2, 5), 0, 5}, {"load 0;false 4;const 5;store 1;return", of(-2, 1), of(-2, 5), 0, 5}, {"load 0;const 1;binary 18;store 0;load 0;false 7;jump 0;return", of(3), of(0), 0, 7 + 7 + 7}, {"jump 0", of(3), of(3), api.FFuel, 20000}, {"const 5;store 0;jump 1;return", of(3), of(3), 3, 0},
+		{"jump 3;const 5;store 0;return", of(1), of(1), 0, 2}, {"load 0;false 4;const 5;store 1;return", of(0, 1), of(0, 1), 0, 3}, {"load 0;false 4;const 5;store 1;return", of(2, 1), of(2, 5), 0, 5}, {"load 0;false 4;const 5;store 1;return", of(-2, 1), of(-2, 5), 0, 5}, {"load 0;const 1;binary 18;store 0;load 0;false 7;jump 0;return", of(3), of(0), 0, 7 + 7 + 7}, {"jump 0", of(3), of(3), api.FFuel, 20000},
 		// The stack.
 		{"load 0;load 1;pick 1;store 2;store 0;store 1;return", of(3, 4, 0), of(4, 3, 3), 0, 7}, {"load 0;load 1;pick 0;store 2;store 0;store 1;return", of(3, 4, 0), of(4, 3, 4), 0, 7}, {"load 0;load 1;const 9;put 1;store 1;store 0;return", of(3, 4), of(9, 4), 0, 7}, {"load 0;load 1;const 9;put 0;store 1;store 0;return", of(3, 4), of(3, 9), 0, 7}, {"load 0;load 1;drop;store 1;return", of(3, 4), of(3, 3), 0, 5},
 		// Standard blocks, of which some cells are not 0 or 1.
@@ -73,9 +73,7 @@ func TestInstructions(t *testing.T) {
 	} {
 		c := samples.Assembled(fmt.Sprintf("unit p 1 %d 0;%s", len(x.before), x.text))
 		if code.Check(c) != api.OK {
-			if x.steps > 0 {
-				t.Errorf("%s is not valid", x.text)
-			}
+			t.Errorf("%s is not valid", x.text)
 			continue
 		}
 		expectScan(t, x.text, c, 0, x.before, 77, x.after, x.fault, x.steps)

@@ -77,26 +77,24 @@ func ends(l []api.Instr) map[int]int {
 		if visited[x] {
 			way = leadBack(found, way, x)
 		}
-		end, known := found[x]
-		if !known {
-			end = x
+		if _, known := found[x]; !known {
 			found[x] = x
 		}
 		for _, y := range way {
-			found[y] = end
+			found[y] = found[x]
 		}
 	}
 	return found
 }
 
-// leadBack ends the last IJumps of a way where they are, from the one on to which the last one leads back. It returns those before.
+// leadBack ends the last IJumps of a way where they are, those behind the one to which the last one leads back. It returns those before
+// that one.
 func leadBack(found map[int]int, way []int, to int) []int {
 	last := len(way) - 1
 	for way[last] != to {
 		found[way[last]] = way[last]
 		last--
 	}
-	found[to] = to
 	return way[:last]
 }
 

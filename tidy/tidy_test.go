@@ -47,15 +47,13 @@ func TestPrune(t *testing.T) {
 
 func TestThread(t *testing.T) {
 	for from, to := range map[string]string{
-		"return": "return", "jump 1;return": "jump 1;return", "jump 1;jump 2;return": "jump 2;jump 2;return", "jump 2;return;jump 1": "jump 1;return;jump 1", "load 0;false 3;return;jump 5;return;jump 2": "load 0;false 2;return;jump 2;return;jump 2", "load 0;false 1;return;jump 2": "", "load 0;false 3;return;jump 0": "load 0;false 0;return;jump 0", "jump 3;jump 0;jump 1;jump 2": "jump 3;jump 0;jump 1;jump 2",
+		"return": "return", "jump 1;return": "jump 1;return", "jump 1;jump 2;return": "jump 2;jump 2;return", "jump 2;return;jump 1": "jump 1;return;jump 1", "load 0;false 3;return;jump 5;return;jump 2": "load 0;false 2;return;jump 2;return;jump 2", "load 0;false 3;return;jump 0": "load 0;false 0;return;jump 0", "jump 3;jump 0;jump 1;jump 2": "jump 3;jump 0;jump 1;jump 2",
 		// Rings: what leads to one leads to the first place of it that comes.
 		"jump 0": "jump 0", "jump 1;jump 1": "jump 1;jump 1", "jump 1;jump 0": "jump 1;jump 0", "jump 1;jump 2;jump 3;jump 2": "jump 2;jump 2;jump 3;jump 2", "load 0;false 4;jump 3;jump 2;jump 5;jump 3": "load 0;false 3;jump 3;jump 2;jump 3;jump 3", "jump 3;return;jump 1;jump 4;jump 5;jump 6;jump 2": "jump 1;return;jump 1;jump 1;jump 1;jump 1;jump 1", "load 0;false 4;load 1;false 5;jump 6;jump 4;jump 6": "load 0;false 6;load 1;false 6;jump 6;jump 6;jump 6",
 		// Places that can't be reached, too.
 		"return;jump 2;jump 0": "return;jump 0;jump 0",
 	} {
-		if to != "" {
-			expect(t, "Thread", tidy.Thread, from, to)
-		}
+		expect(t, "Thread", tidy.Thread, from, to)
 	}
 }
 
@@ -67,16 +65,14 @@ func TestFold(t *testing.T) {
 		// Faults remain, with what is behind them.
 		"const 7;const 0;binary 20;store 0;return": "const 7;const 0;binary 20;store 0;return", "const 7;const 1;const 1;binary 18;binary 21;store 0;return": "const 7;const 0;binary 21;store 0;return", "const 1;const 7;const 0;binary 20;binary 17;store 0;return": "const 1;const 7;const 0;binary 20;binary 17;store 0;return",
 		// Jumps between, and to the first place.
-		"const 2;unary 7;store 0;const 5;load 0;false 1;drop;return": "", "const 5;jump 2;unary 7;load 0;false 2;store 0;return": "const 5;jump 2;unary 7;load 0;false 2;store 0;return", "const 2;unary 7;drop;load 0;false 0;return": "const -2;drop;load 0;false 0;return", "load 0;false 5;const 2;const 3;jump 7;const 1;const 2;binary 17;store 0;return": "load 0;false 5;const 2;const 3;jump 7;const 1;const 2;binary 17;store 0;return", "const 1;load 0;false 4;jump 5;const 2;binary 17;store 0;return": "", "const 5;const 2;load 0;false 5;unary 7;binary 17;store 0;return": "const 5;const 2;load 0;false 5;unary 7;binary 17;store 0;return",
+		"const 5;jump 2;unary 7;load 0;false 2;store 0;return": "const 5;jump 2;unary 7;load 0;false 2;store 0;return", "const 2;unary 7;drop;load 0;false 0;return": "const -2;drop;load 0;false 0;return", "load 0;false 5;const 2;const 3;jump 7;const 1;const 2;binary 17;store 0;return": "load 0;false 5;const 2;const 3;jump 7;const 1;const 2;binary 17;store 0;return", "const 5;const 2;load 0;false 5;unary 7;binary 17;store 0;return": "const 5;const 2;load 0;false 5;unary 7;binary 17;store 0;return",
 		"const 9;jump 3;const 9;const 2;binary 17;store 0;return": "const 9;jump 3;const 9;const 2;binary 17;store 0;return", "jump 4;unary 7;store 0;return;const 5;jump 1": "jump 4;unary 7;store 0;return;const 5;jump 1",
 		// Jumps that lead elsewhere lead to the same instructions.
-		"jump 4;const 1;unary 7;drop;load 0;false 1;const 2;const 3;binary 17;store 1;jump 9;return": "", "const 1;unary 7;store 0;load 1;false 7;const 3;store 2;const 4;unary 7;store 3;jump 3": "const -1;store 0;load 1;false 6;const 3;store 2;const -4;store 3;jump 2",
+		"const 1;unary 7;store 0;load 1;false 7;const 3;store 2;const 4;unary 7;store 3;jump 3": "const -1;store 0;load 1;false 6;const 3;store 2;const -4;store 3;jump 2",
 		// What can't be reached.
 		"return;const 2;unary 7;const 3;const 4;binary 17;return": "return;const -2;const 7;return", "const 2;unary 7;drop;return;jump 1": "const -2;drop;return;jump 1", "return;binary 17;unary 6;const 2;binary 17;return": "return;binary 17;unary 6;const 2;binary 17;return",
 	} {
-		if to != "" {
-			expect(t, "Fold", tidy.Fold, from, to)
-		}
+		expect(t, "Fold", tidy.Fold, from, to)
 	}
 }
 
@@ -84,22 +80,18 @@ func TestFold(t *testing.T) {
 func TestTidy(t *testing.T) {
 	for from, to := range map[string]string{
 		"return": "return", "jump 1;return": "return", "jump 1;jump 2;jump 3;return": "return", "jump 2;return;jump 1": "return", "jump 0": "jump 0", "jump 1;jump 0": "jump 0", "jump 1;jump 2;jump 0": "jump 0", "jump 2;return;jump 3;jump 2": "jump 0",
-		"load 0;pick 0;drop;store 1;return": "load 0;store 1;return", "load 0;pick 0;pick 1;drop;drop;store 1;return": "load 0;store 1;return", "load 0;pick 0;jump 3;drop;store 1;return": "load 0;store 1;return", "const 2;unary 7;store 0;return;return": "const -2;store 0;return", "const 1;jump 2;unary 6;store 0;return": "const 0;store 0;return", "load 0;false 2;return": "load 0;false 2;return", "load 0;false 3;jump 4;jump 5;store 1;return": "",
+		"load 0;pick 0;drop;store 1;return": "load 0;store 1;return", "load 0;pick 0;pick 1;drop;drop;store 1;return": "load 0;store 1;return", "load 0;pick 0;jump 3;drop;store 1;return": "load 0;store 1;return", "const 2;unary 7;store 0;return;return": "const -2;store 0;return", "const 1;jump 2;unary 6;store 0;return": "const 0;store 0;return", "load 0;false 2;return": "load 0;false 2;return",
 		"load 0;false 3;return;jump 4;return": "load 0;false 3;return;return", "load 0;drop;return": "load 0;drop;return", "const 1;const 2;binary 17;store 0;return": "const 3;store 0;return", "load 0;pick 0;false 4;jump 5;jump 5;drop;return": "load 0;pick 0;false 3;drop;return", "load 0;false 2;jump 3;return": "load 0;false 2;return",
 		"load 0;pick 0;load 1;false 5;jump 5;drop;drop;return": "load 0;pick 0;load 1;false 4;drop;drop;return",
 	} {
-		if to != "" {
-			expect(t, "Tidy", tidy.Tidy, from, to)
-		}
-		if to != "" && from != to {
+		expect(t, "Tidy", tidy.Tidy, from, to)
+		if from != to {
 			if is, err := tidy.IsTidy(body(from)); is != (from == "const 1;const 2;binary 17;store 0;return") || err != api.OK {
 				t.Errorf("IsTidy of %s: %v, %d", from, is, err)
 			}
 		}
-		if to != "" {
-			if is, err := tidy.IsTidy(body(to)); !is || err != api.OK {
-				t.Errorf("IsTidy of %s: %v, %d", to, is, err)
-			}
+		if is, err := tidy.IsTidy(body(to)); !is || err != api.OK {
+			t.Errorf("IsTidy of %s: %v, %d", to, is, err)
 		}
 	}
 }
@@ -107,12 +99,13 @@ func TestTidy(t *testing.T) {
 func TestIsTidy(t *testing.T) {
 	for text, want := range map[string]bool{
 		"return": true, "return;return": false, "jump 1;return": false, "jump 2;return;jump 1": false, "jump 0": true, "jump 1;jump 0": false, "load 0;false 3;jump 0;jump 3": true, "load 0;false 3;jump 0;jump 4;jump 3": false, "load 0;false 4;return;jump 5;jump 3;jump 4": true, "load 0;false 3;return;jump 2": false, "load 0;false 3;jump 3;return": false, "load 0;false 2;return": true, "load 0;false 3;jump 3;jump 3": false, "load 0;false 4;load 0;false 4;jump 4": true, "load 0;false 3;return;load 0;false 2;jump 2": true,
-		"load 0;pick 0;drop;store 0;return": false, "load 0;pick 0;load 1;false 5;pick 0;drop;drop;return": false, "load 0;pick 0;load 1;false 5;drop;pick 0;drop;drop;return": false, "const 1;unary 6;store 0;return": false, "const 1;unary 6;unary 6;store 0;return": false, "const 1;load 0;false 4;const 5;unary 6;store 0;return": false, "load 1;const 0;load 0;false 7;unary 6;store 1;return;unary 6;store 2;return": false,
+		"load 0;pick 0;drop;store 0;return": false, "load 0;load 1;false 5;pick 0;drop;drop;return": false, "load 0;load 1;load 1;false 6;drop;pick 0;drop;drop;return": true, "const 1;unary 6;store 0;return": false, "const 1;unary 6;unary 6;store 0;return": false, "const 1;load 0;false 4;jump 5;unary 6;store 0;return": true, "load 1;const 0;load 0;false 8;unary 6;store 1;drop;return;unary 6;store 2;store 3;return": true,
 		// A jump leads to the second place.
-		"const 1;unary 6;load 0;false 1;store 0;return": true, "load 3;pick 0;drop;load 0;false 7;load 1;jump 2;drop;return": true, "const 1;unary 6;load 0;false 0;store 0;return": false, "const 1;const 2;binary 17;store 0;return": true, "load 0;pick 0;store 1;drop;return": true, "load 0;drop;return": true,
+		"const 1;unary 6;load 0;false 1;store 0;return": true, "load 3;pick 0;drop;load 0;false 7;load 1;jump 2;drop;return": true, "const 1;unary 6;drop;load 0;false 0;return": false, "const 1;const 2;binary 17;store 0;return": true, "load 0;pick 0;store 1;drop;return": true, "load 0;drop;return": true,
 	} {
 		c := body(text)
 		if code.Check(c) != api.OK {
+			t.Errorf("%s is not valid", text)
 			continue
 		}
 		if is, err := tidy.IsTidy(c); is != want || err != api.OK || is != (wrong(c.Units[0].Code)&^binaryConst == 0) {
