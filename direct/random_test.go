@@ -30,10 +30,14 @@ type scanner struct {
 	now    int
 }
 
-// scans visits random units of random projects with random cells and times; many of them several times, one scan after the other.
-func scans(seed int64, count int, visit func(s *scanner, after []int, fault int)) {
+// scans visits random units of random projects, in all languages or some, with random cells and times; many of them several times, one
+// scan after the other.
+func scans(seed int64, count int, visit func(s *scanner, after []int, fault int), languages ...string) {
 	r := rand.New(rand.NewSource(seed))
 	s := &scanner{Maker: samples.New(r.Intn)}
+	if len(languages) > 0 {
+		s.Languages = strings.Join(languages, " ")
+	}
 	for range count {
 		s.p, s.source = s.Project()
 		s.unit = r.Intn(len(s.p.Units))
@@ -249,7 +253,7 @@ func uses(e api.Expr) bool {
 func TestValues(t *testing.T) {
 	t.Parallel()
 	found := map[int]int{}
-	scans(15, 1000, func(s *scanner, _ []int, _ int) {
+	scans(15, 600, func(s *scanner, _ []int, _ int) {
 		for _, x := range s.p.Units[s.unit].Body.Text {
 			if x.Op != api.SSet || len(x.Index) > 0 {
 				continue
@@ -276,8 +280,8 @@ func TestValues(t *testing.T) {
 				t.Fatalf("%s\n%v, folded: %d, %d, %d; want %d", s.source, x, got, fault, err, want)
 			}
 		}
-	})
-	if found[api.FNone] < 200 || found[api.FZero] < 5 || found[api.FIndex] == 0 {
+	}, "st")
+	if found[api.FNone] < 500 || found[api.FZero] < 20 || found[api.FIndex] < 5 {
 		t.Errorf("%v", found)
 	}
 }

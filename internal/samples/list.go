@@ -31,7 +31,14 @@ func (l *lines) add(line string) { l.all = append(l.all, line+";") }
 // next adds a line, or several that belong together.
 func (l *lines) next() {
 	if l.kind == "" || l.isOnce(6) {
-		l.load()
+		switch l.Choose(8) {
+		case 0:
+			l.call()
+		case 1:
+			l.jump()
+		default:
+			l.load()
+		}
 		return
 	}
 	switch x := l.Choose(12); {
@@ -50,16 +57,33 @@ func (l *lines) next() {
 
 // load adds a line that makes the result known, which may have a label.
 func (l *lines) load() {
-	label := ""
-	if len(l.waiting) > 0 {
-		last := len(l.waiting) - 1
-		label = l.waiting[last] + ": "
-		l.there = append(l.there, l.waiting[last])
-		l.waiting = l.waiting[:last]
-	}
+	label := l.label()
 	kind := l.scope.kind()
 	l.add(label + l.loading(kind))
 	l.kind = kind
+}
+
+// label returns a label for the next line, at which the result is unknown then: that of a jump that waits, one to which nothing jumps
+// so far, or none.
+func (l *lines) label() string {
+	last := len(l.waiting) - 1
+	switch {
+	case last < 0 && l.Choose(12) > 0:
+		return ""
+	case last < 0:
+		l.waiting = []string{l.newLabel()}
+		last = 0
+	}
+	name := l.waiting[last]
+	l.waiting = l.waiting[:last]
+	l.there = append(l.there, name)
+	l.kind = ""
+	return name + ": "
+}
+
+func (l *lines) newLabel() string {
+	l.labels++
+	return "l" + strconv.Itoa(l.labels)
 }
 
 func (l *lines) loading(kind string) string {
@@ -118,7 +142,10 @@ func (l *lines) call() {
 		return
 	}
 	op := "cal "
-	if l.kind == "bool" {
+	switch l.kind {
+	case "":
+		op = l.label() + op
+	case "bool":
 		op = l.one("cal calc calcn") + " "
 	}
 	l.add(op + strings.TrimSuffix(text, "()"))
@@ -126,22 +153,24 @@ func (l *lines) call() {
 
 // jump adds a jump or a return: most often to a line that is still to come.
 func (l *lines) jump() {
-	condition := ""
-	if l.kind == "bool" {
+	label, condition := "", ""
+	switch {
+	case l.kind == "bool":
 		condition = l.one("c c cn")
-	} else if l.Choose(3) > 0 {
+	case l.Choose(3) > 0:
 		return
+	case l.kind == "":
+		label = l.label()
 	}
 	switch {
 	case l.isOnce(4):
-		l.add("ret" + condition)
+		l.add(label + "ret" + condition)
 	case len(l.there) > 0 && l.isOnce(6):
-		l.add("jmp" + condition + " " + l.there[l.Choose(len(l.there))])
+		l.add(label + "jmp" + condition + " " + l.there[l.Choose(len(l.there))])
 	default:
-		l.labels++
-		label := "l" + strconv.Itoa(l.labels)
-		l.waiting = append(l.waiting, label)
-		l.add("jmp" + condition + " " + label)
+		to := l.newLabel()
+		l.waiting = append(l.waiting, to)
+		l.add(label + "jmp" + condition + " " + to)
 	}
 	if condition == "" {
 		l.kind = ""
